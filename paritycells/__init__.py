@@ -1,0 +1,1 @@
+"""Paritycells: cells toggled by parity."""

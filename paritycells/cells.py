@@ -16,14 +16,19 @@ def is_cell(thing, *, size=MOST_CELLS):
     return is_integer_between(thing, 0, size - 1)
 
 
+def are_cells(things, size):
+    """Return whether things is a list of distinct cells of this size, for any value of things."""
+    if not isinstance(things, (list, tuple)):
+        return False
+    if not all([is_cell(thing, size=size) for thing in things]):
+        return False
+    # Only now are all items known to be integers, which a set can hold.
+    return len(set(things)) == len(things)
+
+
 def cell_tuple(things, *, size=MOST_CELLS):
     """Return the cells in ascending order, or raise NoCells(things)."""
-    if not isinstance(things, (list, tuple)):
-        raise NoCells(things)
-    if not all([is_cell(thing, size=size) for thing in things]):
-        raise NoCells(things)
-    # Only now are all items known to be integers, which a set can hold.
-    if len(set(things)) != len(things):
+    if not are_cells(things, size):
         raise NoCells(things)
     return tuple(sorted(things))
 

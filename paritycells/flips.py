@@ -75,9 +75,14 @@ def swap_flip(one, other):
     return Flip((one, other), (one, other))
 
 
+def check_fit(flip, size):
+    """Raise TooWide(needed) if the flip does not fit a board of this size."""
+    if flip.width() > size:
+        raise TooWide(flip.width())
+
+
 def apply_flip(board, flip):
     """Return the Board after the flip is done, or raise TooWide(needed)."""
-    if flip.width() > board.size():
-        raise TooWide(flip.width())
+    check_fit(flip, board.size())
     changed = flip.toggled() if board.parity(flip.tested()) == 1 else ()
     return board.toggled(changed)

@@ -36,3 +36,12 @@ LISTS_WITHOUT_CELLS = [
 LISTS_WITH_DUPLICATES = [[0, 0], (0, 0), [1, 1], (2, 2), [1, 2, 1], [3, 2, 1, 3], (39, 1, 39), [5] * 40]
 
 NOT_CELLS = NOT_LISTS + LISTS_WITHOUT_CELLS + LISTS_WITH_DUPLICATES
+
+# None of these is a stamp; some of them would be found in a dict as (5, "ann", 0) or (1, "ann", 0).
+NOT_STAMPS = NOT_LISTS + NOT_CELLS + NOT_INTEGERS + [
+    (5, "ann", False), (True, "ann", 0), (True, "ann", False), (5, True, 0), [5, "ann", 0], [(5, "ann", 0)],
+    ([5], "ann", 0), (5, ["ann"], 0), (5, "ann", [0]), ([5, "ann", 0],), ((5, "ann", 0),), (5, "ann"), (5, "ann", 0, 0),
+    ("ann", 5, 0), (5, "Ann", 0), (5, "", 0), (5, "abcdefghi", 0), (-1, "ann", 0), (10 ** 18 + 1, "ann", 0),
+    (5, "ann", -1), (5, "ann", 10 ** 18 + 1), ("5", "ann", 0), (5, "ann", "0"), (5, b"ann", 0), (5, None, 0),
+    (None, None, None), "5 ann 0", ({}, "ann", 0), (5, {}, 0), (5, "ann", {}), (5, "ann", {0}), (5, "ann", knotted()),
+]

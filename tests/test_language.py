@@ -1,6 +1,7 @@
 """The rules of the language subset that are easily broken by accident."""
 
 import ast
+import builtins
 import pathlib
 import re
 import unittest
@@ -12,6 +13,18 @@ BARRED = re.compile(
     r"\b(type|typing|typing_extensions|enum|Enum|IntEnum|StrEnum|Flag|IntFlag|Generic|Protocol|ABC|ABCMeta"
     r"|namedtuple|NamedTuple|TypedDict|TYPE_CHECKING|abstractmethod)\b|dataclass|overload|contextmanager"
 )
+
+# The builtins and the methods of builtin values that the subset allows and this package has a use for.
+CALLED = set(
+    "len range enumerate zip min max sum abs sorted reversed int str bool list tuple dict set isinstance ord repr any"
+    " all divmod".split()
+)
+METHODS = set(
+    "append clear copy count endswith extend find get index insert isalnum isalpha isdigit islower isspace isupper"
+    " items join keys ljust lower lstrip partition pop remove replace reverse rfind rjust rpartition rsplit rstrip"
+    " setdefault split splitlines startswith strip update upper values zfill bit_length".split()
+)
+BASES = {"ValueError", "LookupError", "RuntimeError", "ArithmeticError"}
 
 
 def trees():
@@ -41,6 +54,24 @@ def defined(tree):
     """Return the names that a file defines itself at module level."""
     names = [node.name for node in tree.body if isinstance(node, (ast.FunctionDef, ast.ClassDef))]
     return names + [node.targets[0].id for node in tree.body if isinstance(node, ast.Assign)]
+
+
+def own_methods():
+    """Return the names of all methods of the package."""
+    return {each.name for node in nodes(ast.ClassDef) for each in node.body if isinstance(each, ast.FunctionDef)}
+
+
+def locals_of(tree):
+    """Return the parameters and local variables of a file."""
+    names = [node.arg for node in ast.walk(tree) if isinstance(node, ast.arg)]
+    functions = [node for node in ast.walk(tree) if isinstance(node, ast.FunctionDef)]
+    stored = [each for node in functions for each in ast.walk(node) if isinstance(each, ast.Name)]
+    return set(names) | {each.id for each in stored if isinstance(each.ctx, ast.Store)}
+
+
+def imported(tree):
+    """Return the names that a file imports."""
+    return {alias.name for node in tree.body if isinstance(node, ast.ImportFrom) for alias in node.names}
 
 
 class Language(unittest.TestCase):
@@ -76,8 +107,51 @@ class Language(unittest.TestCase):
             self.assertTrue(name in DUNDERS or not name.startswith("_"), name)
 
     def test_no_name_is_both_method_and_attribute(self):
-        methods = [each.name for node in nodes(ast.ClassDef) for each in node.body if isinstance(each, ast.FunctionDef)]
-        self.assertEqual(set(methods) & set(stored_attributes()), set())
+        self.assertEqual(own_methods() & set(stored_attributes()), set())
+
+    def test_attributes_that_are_read_are_assigned_or_methods(self):
+        known = own_methods() | set(stored_attributes()) | METHODS
+        for node in nodes(ast.Attribute):
+            self.assertIn(node.attr, known)
+
+    def test_names_of_builtins_and_imports_keep_their_meaning(self):
+        self.assertEqual(set(bound_names()) & set(dir(builtins)), set())
+        for path, tree in trees():
+            classes = {node.name for node in tree.body if isinstance(node, ast.ClassDef)}
+            self.assertEqual(locals_of(tree) & (imported(tree) | classes), set(), path.name)
+
+    def test_builtins(self):
+        used = {node.id for node in nodes(ast.Name)} & set(dir(builtins))
+        self.assertLessEqual(used, CALLED | BASES)
+
+    def test_statements_and_expressions_that_are_not_used(self):
+        kinds = (
+            ast.Global, ast.AsyncFunctionDef, ast.GeneratorExp, ast.Yield, ast.YieldFrom, ast.Lambda, ast.Div,
+            ast.NamedExpr, ast.AnnAssign, ast.Starred, ast.Try, ast.With, ast.Match,
+        )
+        self.assertEqual(nodes(*kinds), [])
+
+    def test_no_imports_in_a_circle(self):
+        needs = {}
+        for path, tree in trees():
+            found = [node.module for node in tree.body if isinstance(node, ast.ImportFrom)]
+            needs[f"paritycells.{path.stem}"] = set(found)
+        while needs:
+            free = [name for name in needs if not needs[name] & set(needs)]
+            self.assertNotEqual(free, [], "some files import each other")
+            for name in free:
+                del needs[name]
+
+    def test_each_import_is_used(self):
+        for path, tree in trees():
+            used = {node.id for node in ast.walk(tree) if isinstance(node, ast.Name)}
+            self.assertLessEqual(imported(tree), used, path.name)
+
+    def test_what_a_loop_runs_over_is_written_on_the_spot(self):
+        late = {"zip", "enumerate", "reversed", "range"}
+        for node in nodes(ast.Assign, ast.Return):
+            if isinstance(node.value, ast.Call) and isinstance(node.value.func, ast.Name):
+                self.assertNotIn(node.value.func.id, late)
 
     def test_strings(self):
         for node in nodes(ast.Constant):

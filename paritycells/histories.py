@@ -57,8 +57,7 @@ class History:
 
     def board(self):
         """Return the Board after all standing entries."""
-        standing = [self.flip(stamp) for stamp in self.stamps() if self.stands(stamp)]
-        return apply_flips(self.start_board, standing)
+        return apply_flips(self.start_board, standing_flips(self, self.stamps()))
 
     def stamps(self):
         """Return the list of the stamps of all entries, ascending."""
@@ -85,8 +84,17 @@ class History:
         twin.change_counts = {stamp: self.change_counts[stamp] for stamp in self.change_counts}
         return twin
 
+    def has_entry(self, stamp):
+        """Return whether there is an entry with this stamp, for any value of stamp."""
+        # A dict would take (5, "ann", False) for (5, "ann", 0), and it cannot look up a list.
+        return is_stamp(stamp) and stamp in self.flips_entered
+
     def check_entry(self, stamp):
         """Raise NoEntry(stamp), for any value that is not the stamp of an entry."""
-        # A dict would take (5, "ann", False) for (5, "ann", 0), and it cannot look up a list.
-        if not is_stamp(stamp) or stamp not in self.flips_entered:
+        if not self.has_entry(stamp):
             raise NoEntry(stamp)
+
+
+def standing_flips(history, stamps):
+    """Return the flips of those entries that stand, in the order of the stamps."""
+    return [history.flip(stamp) for stamp in stamps if history.stands(stamp)]

@@ -153,3 +153,36 @@ def switch_entry(history, stamp):
         history.remove(stamp)
     else:
         history.restore(stamp)
+
+
+def rank_of_rows(rows):
+    """Return how many of the rows can be independent at most, by elimination cell by cell."""
+    left = [set(row) for row in rows]
+    rank = 0
+    for cell in range(40):
+        holders = [row for row in left if cell in row]
+        if holders:
+            rank += 1
+            left = [row for row in left if cell not in row] + [row ^ holders[0] for row in holders[1:]]
+    return rank
+
+
+def least_flips(size):
+    """Return, for all tables of a size, their rows with the number of flips of a shortest sequence.
+
+    It goes through all sequences, one flip more at a time.
+    """
+    flips = [flip for flip in all_flips(size) if not flip.is_idle()]
+    start = tuple(frozenset([cell]) for cell in range(size))
+    found = {start: 0}
+    reached = [start]
+    while reached:
+        further = []
+        for rows, flip in itertools.product(reached, flips):
+            tested = sum_of(rows[cell] for cell in flip.tested())
+            after = tuple(row ^ tested if cell in flip.toggled() else row for cell, row in enumerate(rows))
+            if after not in found:
+                found[after] = found[rows] + 1
+                further.append(after)
+        reached = further
+    return found

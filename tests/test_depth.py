@@ -130,7 +130,9 @@ class Depth(CheckCase):
         for size in range(1, 5):
             for rows in all_rows(size)[::1 if size < 4 else 37]:
                 changes = [changes_by_rows(rows, bits) for bits in all_bits(size)]
-                best = max(len(chosen) for chosen in subsets(changes) if len(chosen) <= 4 and are_independent_rows(chosen))
+                # More boards than cells are never independent.
+                few = [chosen for chosen in subsets(changes) if len(chosen) <= size]
+                best = max(len(chosen) for chosen in few if are_independent_rows(chosen))
                 self.assertEqual(depth_of(Table(rows)), best)
 
     def test_as_few_flips_as_any_sequence_has(self):

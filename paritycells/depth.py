@@ -1,6 +1,6 @@
 """The depth of a table: how many boards it changes independently of each other."""
 
-from paritycells.boards import Board
+from paritycells.boards import Board, is_board_of
 from paritycells.cells import added_cells, cell_tuple
 from paritycells.masks import mask_of, pivots_of, rank_of, reduced
 
@@ -49,8 +49,3 @@ def is_witness(table, boards):
     if not all([is_board_of(board, table.size()) for board in boards]):
         return False
     return are_independent([changes_of(table, board) for board in boards])
-
-
-def is_board_of(thing, size):
-    """Return whether thing is a Board of this size, for any value of thing."""
-    return isinstance(thing, Board) and thing.size() == size

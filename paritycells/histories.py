@@ -36,8 +36,12 @@ class History:
             raise Taken(stamp)
         if len(self.flips_entered) >= MOST_ENTRIES:
             raise TooMany(MOST_ENTRIES)
+        self.keep(stamp, flip, 0)
+
+    def keep(self, stamp, flip, changes):
+        """Have an entry with this count of changes; nothing is checked."""
         self.flips_entered[stamp] = flip
-        self.change_counts[stamp] = 0
+        self.change_counts[stamp] = changes
 
     def remove(self, stamp):
         """Remove the entry, or raise NoEntry(stamp) or Removed(stamp)."""
@@ -80,8 +84,8 @@ class History:
     def copied(self):
         """Return an independent History in the same state."""
         twin = History(self.start_board)
-        twin.flips_entered = {stamp: self.flips_entered[stamp] for stamp in self.flips_entered}
-        twin.change_counts = {stamp: self.change_counts[stamp] for stamp in self.change_counts}
+        for stamp in self.stamps():
+            twin.keep(stamp, self.flips_entered[stamp], self.change_counts[stamp])
         return twin
 
     def has_entry(self, stamp):

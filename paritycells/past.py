@@ -20,8 +20,7 @@ def flip_today(history, stamp):
 def board_at(history, *, time):
     """Return the Board at the time, or raise NoTime(time)."""
     check_time(time)
-    done = [stamp for stamp in history.stamps() if stamp[0] <= time]
-    return apply_flips(history.start(), standing_flips(history, done))
+    return apply_flips(history.start(), flips_until(history, time))
 
 
 def cells_today(history, cells, *, time):
@@ -32,6 +31,16 @@ def cells_today(history, cells, *, time):
     for flip in standing_flips(history, later):
         today = cells_past(today, flip)
     return today
+
+
+def cells_at_start(history, cells, *, time):
+    """Return the cells whose parity on the start board is that of the cells at the time, or raise as cells_today."""
+    origin = cell_tuple(cells, size=history.start().size())
+    check_time(time)
+    # A flip undoes itself, so the cells move back past it in the way that they move forward.
+    for flip in reversed(flips_until(history, time)):
+        origin = cells_past(origin, flip)
+    return origin
 
 
 def parity_at(history, cells, *, time):
@@ -54,6 +63,11 @@ def does_matter(history, stamp, *, cell):
     if not is_cell(cell, size=board.size()):
         raise NoCell(cell)
     return apply_flip(board, today).is_up(cell) != board.is_up(cell)
+
+
+def flips_until(history, time):
+    """Return the flips of the standing entries with this time or a lesser one, in order."""
+    return standing_flips(history, [stamp for stamp in history.stamps() if stamp[0] <= time])
 
 
 def check_time(time):

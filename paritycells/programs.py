@@ -2,14 +2,13 @@
 
 from paritycells.cells import share_odd
 from paritycells.errors import NoProcedure, NoProgram
-from paritycells.integers import is_integer_between
+from paritycells.integers import MOST_PASSES, is_integer_between
 from paritycells.stamps import is_name
 
 MOST_PROCEDURES = 12
 MOST_PARAMETERS = 8
 MOST_STEPS = 20
 MOST_NESTED = 4
-MOST_PASSES = 10 ** 30
 
 # The name that stands for cell 0 in every procedure.
 ONE = "one"

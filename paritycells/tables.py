@@ -52,7 +52,7 @@ class Table:
     def then(self, later):
         """Return the Table of this table followed by the later one, or raise Unlike(one, other)."""
         self.check_size(later.size())
-        return Table([self.source(later.row(cell)) for cell in range(self.size())])
+        return table_with(composed_masks(self.masks, later.masks))
 
     def inverse(self):
         """Return the Table that takes each image back to its board."""
@@ -94,6 +94,16 @@ def single_masks(size):
     return tuple([1 << cell for cell in range(size)])
 
 
+def composed_masks(masks, later):
+    """Return the masks of the rows after the later rows are applied, too."""
+    return tuple([added_masks(masks, cells_of(mask)) for mask in later])
+
+
+def table_with(masks):
+    """Return the Table with these masks."""
+    return Table([cells_of(mask) for mask in masks])
+
+
 def identity_table(size):
     """Return the identity Table, or raise NoSize(value)."""
     return table_of(size, [])
@@ -107,7 +117,7 @@ def table_of(size, flips):
     for flip in flips:
         check_fit(flip, size)
         masks = masks_after(masks, flip)
-    return Table([cells_of(mask) for mask in masks])
+    return table_with(masks)
 
 
 def masks_after(masks, flip):

@@ -430,7 +430,8 @@ class Compared(ProgramCase):
     def test_nothing_else(self):
         program = Program({"copy": COPY})
         others = [
-            None, True, 1, {"copy": COPY}, [("copy", COPY)], "copy", repr(program), object(), Thing(), Program, Board(3),
+            None, True, 1, {"copy": COPY}, [("copy", COPY)], "copy", repr(program), object(), Thing(), Program,
+            Board(3),
             mock.ANY,
         ]
         for other in others:

@@ -38,7 +38,7 @@ class Examples(unittest.TestCase):
 
     def test_examples_of_the_interface(self):
         every = blocks(EXAMPLES.read_text())
-        self.assertEqual(len(every), 93)
+        self.assertEqual(len(every), 106)
         for heading, lines in every:
             with self.subTest(heading):
                 *earlier, last, expected = lines

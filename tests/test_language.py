@@ -127,9 +127,29 @@ class Language(unittest.TestCase):
     def test_statements_and_expressions_that_are_not_used(self):
         kinds = (
             ast.Global, ast.AsyncFunctionDef, ast.GeneratorExp, ast.Yield, ast.YieldFrom, ast.Lambda, ast.Div,
-            ast.NamedExpr, ast.AnnAssign, ast.Starred, ast.Try, ast.With, ast.Match,
+            ast.NamedExpr, ast.AnnAssign, ast.Starred, ast.With, ast.Match,
         )
         self.assertEqual(nodes(*kinds), [])
+
+    def test_only_own_errors_are_caught(self):
+        own = set(defined(ast.parse((PACKAGE / "errors.py").read_text())))
+        for node in nodes(ast.Try):
+            self.assertEqual([node.finalbody, node.orelse], [[], []])
+            for handler in node.handlers:
+                caught = handler.type.elts if isinstance(handler.type, ast.Tuple) else [handler.type]
+                self.assertLessEqual({each.id for each in caught}, own)
+
+    def test_errors_are_raised_by_their_class(self):
+        own = set(defined(ast.parse((PACKAGE / "errors.py").read_text())))
+        for node in nodes(ast.Raise):
+            self.assertIn(node.exc.func.id, own)
+
+    def test_module_level_values_are_not_changed(self):
+        for path, tree in trees():
+            tables = {node.targets[0].id for node in tree.body if isinstance(node, ast.Assign)}
+            for node in ast.walk(tree):
+                if isinstance(node, ast.Subscript) and isinstance(node.ctx, (ast.Store, ast.Del)):
+                    self.assertNotIn(getattr(node.value, "id", None), tables)
 
     def test_no_imports_in_a_circle(self):
         needs = {}

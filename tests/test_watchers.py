@@ -2,6 +2,7 @@
 
 import itertools
 import unittest
+from unittest import mock
 
 from checks import CheckCase, subsets
 from models import (
@@ -326,6 +327,13 @@ class Reasons(CheckCase):
             with self.subTest(repr(thing)):
                 self.assertIs(watcher.is_reason(thing, [1, 3], time=9), False)
 
+    def test_a_constant_is_no_cell(self):
+        watcher = Watcher(History(Board(4, up=[1])))
+        watcher.look([2], time=0)
+        for constant in (0, 1, 2, 3, -1, 4):
+            self.assertIs(watcher.is_reason(((0,), constant), [1, 2], time=0), False)
+            self.assertIs(watcher.is_reason(((0,), constant), [0, 2], time=0), constant == 1)
+
     def test_no_reason_where_nothing_is_known(self):
         watcher = Watcher(two_entries())
         for thing in (((), 0), ((), 1), ((0,), 0)):
@@ -400,7 +408,7 @@ class Doubts(CheckCase):
             (Board(3, up=[1]), Board(3, up=[2])), (start, None), (None, other), ("1100", "1010"), (start, "1010"),
             (start, (0, 2)), (start, [1, 0, 1, 0]), (start, True), (start, Flip([1], [2])), ((start, other),), start,
             (start, Board(4, up=[2, 3])), (start, Thing()), (start, Board), (start, Board(1)),
-            (start, Board(40, up=[2])),
+            (start, Board(40, up=[2])), (mock.ANY, other), (start, mock.ANY),
         ]
         for thing in wrong:
             with self.subTest(repr(thing)):
